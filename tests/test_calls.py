@@ -1,0 +1,151 @@
+"""What holds of every call: nothing handed in is changed, nothing is kept, nothing is printed, read or imported."""
+
+import ast
+import contextlib
+import io
+import pathlib
+import sys
+import unittest
+
+import wordforms
+from wordforms.rules import pl_read
+
+ANSWERS = (
+    ("", 0),
+    ("one: n = 1; few: n % 10 = 2..4 and n % 100 != 12..14;", 2),
+    ("one: n = 1;", 1),
+    ("one: n = 1; one: n = 2;", -22),
+    ("other: n = 1;", -22),
+    ("a:n=0;b:n=0;c:n=0;d:n=0;e:n=0;f:n=0;g:n=0;h:n=0;", 8),
+    ("a:n=0;b:n=0;c:n=0;d:n=0;e:n=0;f:n=0;g:n=0;h:n=0;i:n=0;", -28),
+    ("a: n = " + ",".join(["1"] * 64) + ";", 1),
+    ("a: n = " + ",".join(["1"] * 65) + ";", -28),
+    ("a: n % 0 = 0;", -22),
+    ("a: n = 2..1;", -22),
+    ("a: n % 625 = 0 or n % 16 = 0;", 1),
+    ("a: n % 73 = 0 or n % 137 = 0;", -28),
+    ("a: n = 1", -71),
+    ("?", -71),
+    (" " * 2049, -28),
+)
+
+
+def row(text):
+    return list(text.encode("latin-1"))
+
+
+class Unchanged(list):
+    """A list that tells of any try to change it, even one that is taken back."""
+
+    def refuse(self, *others, **named):
+        raise RuntimeError("changed")
+
+    __setitem__ = __delitem__ = __iadd__ = __imul__ = refuse
+    append = extend = insert = pop = remove = clear = sort = reverse = refuse
+
+
+class Calls(unittest.TestCase):
+    def test_what_is_handed_in_is_the_same_after(self):
+        for text, answer in ANSWERS:
+            t = row(text)
+            before = list(t)
+            self.assertEqual(pl_read(t), [0, answer])
+            self.assertEqual(t, before)
+
+    def test_what_is_handed_in_is_not_changed_for_a_while(self):
+        for text, answer in ANSWERS:
+            self.assertEqual(pl_read(Unchanged(row(text))), [0, answer])
+
+    def test_every_call_is_as_if_the_first(self):
+        for text, answer in ANSWERS:
+            for other, other_answer in ANSWERS:
+                self.assertEqual(pl_read(row(text)), [0, answer])
+                self.assertEqual(pl_read(row(other)), [0, other_answer])
+                self.assertEqual(pl_read(row(text)), [0, answer])
+
+    def test_the_same_list_changed_between_calls(self):
+        t = row("a: n = 1; b: n = 2;")
+        self.assertEqual(pl_read(t), [0, 2])
+        t[t.index(98)] = 97
+        self.assertEqual(pl_read(t), [0, -22])
+
+    def test_an_answer_belongs_to_the_caller(self):
+        for text, answer in ANSWERS:
+            given = pl_read(row(text))
+            given[1] = 77
+            given.append(5)
+            self.assertEqual(pl_read(row(text)), [0, answer])
+
+    def test_nothing_is_printed(self):
+        out = io.StringIO()
+        with contextlib.redirect_stdout(out), contextlib.redirect_stderr(out):
+            for text, answer in ANSWERS:
+                pl_read(row(text))
+        self.assertEqual(out.getvalue(), "")
+
+    def test_few_calls_stand_within_one_another(self):
+        texts = ["a:n=" + "1," * 1021 + "1;", "a:" + "n=1or " * 340 + "n=1;", "a:n=1;" * 341, "a" * 2048, " " * 2048]
+        deepest = 0
+
+        def depth(frame):
+            count = 0
+            while frame is not None:
+                count += 1
+                frame = frame.f_back
+            return count
+
+        def watch(frame, event, arg):
+            nonlocal deepest
+            deepest = max(deepest, depth(frame))
+
+        here = depth(sys._getframe())
+        sys.setprofile(watch)
+        try:
+            for text in texts:
+                pl_read(row(text))
+        finally:
+            sys.setprofile(None)
+        self.assertLess(deepest - here, 30)
+
+
+class Source(unittest.TestCase):
+    FOLDER = pathlib.Path(wordforms.__file__).parent
+
+    def trees(self):
+        for path in sorted(self.FOLDER.glob("*.py")):
+            yield path.name, ast.parse(path.read_text(encoding="ascii"))
+
+    def test_nothing_is_imported(self):
+        for name, tree in self.trees():
+            for node in ast.walk(tree):
+                self.assertNotIsInstance(node, (ast.Import, ast.ImportFrom), name)
+
+    def test_only_plain_names_of_python_are_called(self):
+        allowed = {"len", "tuple", "any"}
+        for name, tree in self.trees():
+            own = {node.name for node in ast.walk(tree) if isinstance(node, ast.FunctionDef)}
+            parameters = {node.arg for node in ast.walk(tree) if isinstance(node, ast.arg)}
+            for node in ast.walk(tree):
+                if isinstance(node, ast.Call) and isinstance(node.func, ast.Name):
+                    self.assertIn(node.func.id, allowed | own | parameters, name)
+
+    def test_nothing_at_the_top_can_be_changed(self):
+        for name, tree in self.trees():
+            for node in tree.body:
+                if isinstance(node, ast.Assign):
+                    self.assertIsInstance(ast.literal_eval(node.value), (int, tuple), name)
+
+    def test_sizes(self):
+        for path in sorted(self.FOLDER.glob("*.py")):
+            lines = path.read_text(encoding="ascii").split("\n")
+            self.assertLessEqual(len(lines), 400)
+            self.assertLessEqual(max(len(line) for line in lines), 120)
+            self.assertNotIn("\t", "".join(lines))
+        for name, tree in self.trees():
+            for node in ast.walk(tree):
+                if isinstance(node, ast.FunctionDef):
+                    self.assertLessEqual(node.end_lineno - node.lineno + 1, 40, node.name)
+
+
+if __name__ == "__main__":
+    unittest.main()

@@ -1,0 +1,1 @@
+"""Which form a number takes: rules by remainders and ranges."""
