@@ -8,7 +8,7 @@ import sys
 import unittest
 
 import wordforms
-from wordforms.rules import pl_read
+from wordforms.rules import pl_form, pl_read
 
 ANSWERS = (
     ("", 0),
@@ -29,9 +29,31 @@ ANSWERS = (
     (" " * 2049, -28),
 )
 
+FORMS = (
+    (0, "", "other"),
+    (1, "one: n = 1; few: n % 10 = 2..4 and n % 100 != 12..14;", "one"),
+    (22, "one: n = 1; few: n % 10 = 2..4 and n % 100 != 12..14;", "few"),
+    (12, "one: n = 1; few: n % 10 = 2..4 and n % 100 != 12..14;", "other"),
+    (1, "a: n != 1;", "other"),
+    (9223372036854775807, "a: n != 1;", "a"),
+    (3, "abcdefghijklmnop: n % 1 = 0;", "abcdefghijklmnop"),
+    (64, "a: n = " + ",".join(["1"] * 63) + ",64;", "a"),
+    (7, "a: n % 625 = 0 or n % 16 = 7;", "a"),
+)
+
 
 def row(text):
     return list(text.encode("latin-1"))
+
+
+def calls():
+    """Each call by its function, its numbers and its row, with what it answers."""
+    for text, answer in ANSWERS:
+        yield pl_read, [], row(text), [0, answer]
+        if answer < 0:
+            yield pl_form, [1], row(text), [0, answer]
+    for number, text, word in FORMS:
+        yield pl_form, [number], row(text), [1, len(word), *row(word)]
 
 
 class Unchanged(list):
@@ -46,45 +68,53 @@ class Unchanged(list):
 
 class Calls(unittest.TestCase):
     def test_what_is_handed_in_is_the_same_after(self):
-        for text, answer in ANSWERS:
-            t = row(text)
+        for call, numbers, t, answer in calls():
             before = list(t)
-            self.assertEqual(pl_read(t), [0, answer])
+            self.assertEqual(call(*numbers, t), answer)
             self.assertEqual(t, before)
 
     def test_what_is_handed_in_is_not_changed_for_a_while(self):
-        for text, answer in ANSWERS:
-            self.assertEqual(pl_read(Unchanged(row(text))), [0, answer])
+        for call, numbers, t, answer in calls():
+            self.assertEqual(call(*numbers, Unchanged(t)), answer)
 
     def test_every_call_is_as_if_the_first(self):
-        for text, answer in ANSWERS:
-            for other, other_answer in ANSWERS:
-                self.assertEqual(pl_read(row(text)), [0, answer])
-                self.assertEqual(pl_read(row(other)), [0, other_answer])
-                self.assertEqual(pl_read(row(text)), [0, answer])
+        for call, numbers, t, answer in calls():
+            for other, other_numbers, u, other_answer in calls():
+                self.assertEqual(call(*numbers, t), answer)
+                self.assertEqual(other(*other_numbers, u), other_answer)
+                self.assertEqual(call(*numbers, t), answer)
 
     def test_the_same_list_changed_between_calls(self):
         t = row("a: n = 1; b: n = 2;")
         self.assertEqual(pl_read(t), [0, 2])
-        t[t.index(98)] = 97
+        self.assertEqual(pl_form(2, t), [1, 1, 98])
+        t[t.index(98)] = 99
+        self.assertEqual(pl_form(2, t), [1, 1, 99])
+        t[t.index(99)] = 97
         self.assertEqual(pl_read(t), [0, -22])
+        self.assertEqual(pl_form(2, t), [0, -22])
 
     def test_an_answer_belongs_to_the_caller(self):
-        for text, answer in ANSWERS:
-            given = pl_read(row(text))
+        for call, numbers, t, answer in calls():
+            given = call(*numbers, t)
             given[1] = 77
             given.append(5)
-            self.assertEqual(pl_read(row(text)), [0, answer])
+            self.assertEqual(call(*numbers, t), answer)
+
+    def test_the_names_of_the_arguments(self):
+        self.assertEqual(pl_read(t=row("a: n = 1;")), [0, 1])
+        self.assertEqual(pl_form(t=row("a: n = 1;"), number=1), [1, 1, 97])
 
     def test_nothing_is_printed(self):
         out = io.StringIO()
         with contextlib.redirect_stdout(out), contextlib.redirect_stderr(out):
-            for text, answer in ANSWERS:
-                pl_read(row(text))
+            for call, numbers, t, answer in calls():
+                call(*numbers, t)
         self.assertEqual(out.getvalue(), "")
 
     def test_few_calls_stand_within_one_another(self):
-        texts = ["a:n=" + "1," * 1021 + "1;", "a:" + "n=1or " * 340 + "n=1;", "a:n=1;" * 341, "a" * 2048, " " * 2048]
+        texts = ["a:n=" + "1," * 1021 + "1;", "a:" + "n=1or " * 340 + "n=1;", "a:n=1;" * 341, "a" * 2048, " " * 2048,
+                 "a:" + "n=1or " * 63 + "n=1;", "a:" + "n!=1and " * 63 + "n!=1;", "a:n=" + "1," * 63 + "1;"]
         deepest = 0
 
         def depth(frame):
@@ -103,6 +133,7 @@ class Calls(unittest.TestCase):
         try:
             for text in texts:
                 pl_read(row(text))
+                pl_form(2, row(text))
         finally:
             sys.setprofile(None)
         self.assertLess(deepest - here, 30)
@@ -121,7 +152,7 @@ class Source(unittest.TestCase):
                 self.assertNotIsInstance(node, (ast.Import, ast.ImportFrom), name)
 
     def test_only_plain_names_of_python_are_called(self):
-        allowed = {"len", "tuple", "any"}
+        allowed = {"len", "tuple", "list", "any", "all"}
         for name, tree in self.trees():
             own = {node.name for node in ast.walk(tree) if isinstance(node, ast.FunctionDef)}
             parameters = {node.arg for node in ast.walk(tree) if isinstance(node, ast.arg)}

@@ -248,3 +248,37 @@ def pl_read(t):
     if forms is None:
         return [0, NO_RULE]
     return [0, judged(forms)]
+
+
+def in_ranges(value, ranges):
+    return any([first <= value <= last for first, last in ranges])
+
+
+def one_holds(divisor, is_equal, ranges, number):
+    value = number if divisor is None else number % divisor
+    return in_ranges(value, ranges) == is_equal
+
+
+def both_holds(both, number):
+    return all([one_holds(divisor, is_equal, ranges, number) for divisor, is_equal, ranges in both])
+
+
+def either_holds(either, number):
+    return any([both_holds(both, number) for both in either])
+
+
+def form_of(forms, number):
+    """The word of the first form that holds of the number; other, if none does."""
+    for word, either in forms:
+        if either_holds(either, number):
+            return word
+    return WORD_OTHER
+
+
+def pl_form(number, t):
+    """[1, how many bytes, they] for the word of the number's form by the rule t, or [0, a refusal]."""
+    answer = pl_read(t)
+    if answer[1] < 0:
+        return answer
+    word = form_of(read_rule(t), number)
+    return [1, len(word)] + list(word)
