@@ -8,7 +8,8 @@ import sys
 import unittest
 
 import wordforms
-from wordforms.rules import pl_form, pl_read
+from helper import row
+from wordforms.rules import pl_form, pl_read, pl_same
 
 ANSWERS = (
     ("", 0),
@@ -42,18 +43,36 @@ FORMS = (
 )
 
 
-def row(text):
-    return list(text.encode("latin-1"))
+SAMES = (
+    ("", "", [0, 1]),
+    ("a: n = 1;", "", [2, 1]),
+    ("", "one: n != 0..9;", [2, 10]),
+    ("a: n = 1;", "b: n = 1;", [2, 1]),
+    ("a: n = 0..3; b: n = 5;", "b: n = 5; a: n = 0, 1, 2, 3;", [0, 1]),
+    ("a: n % 2 = 0;", "a: n % 4 = 0, 2;", [0, 1]),
+    ("a: n % 3 = 2;", "a: n % 3 = 2 and n != 20;", [2, 20]),
+    ("a: n = 1", "a: n % 0 = 1;", [0, -71]),
+    ("a: n % 0 = 1;", "a: n = 1", [0, -22]),
+    ("a: n = 1;", "a: n = 1 or n = 3..2;", [0, -22]),
+    ("a: n = 1;", " " * 2049, [0, -28]),
+    ("a: n % 73 = 1;", "a: n % 137 = 1;", [0, -28]),
+)
 
 
 def calls():
-    """Each call by its function, its numbers and its row, with what it answers."""
+    """Each call by its function, its numbers and its rows, with what it answers."""
     for text, answer in ANSWERS:
-        yield pl_read, [], row(text), [0, answer]
+        yield pl_read, [], [row(text)], [0, answer]
         if answer < 0:
-            yield pl_form, [1], row(text), [0, answer]
+            yield pl_form, [1], [row(text)], [0, answer]
     for number, text, word in FORMS:
-        yield pl_form, [number], row(text), [1, len(word), *row(word)]
+        yield pl_form, [number], [row(text)], [1, len(word), *row(word)]
+    for text, other, answer in SAMES:
+        yield pl_same, [], [row(text), row(other)], answer
+    one_list = row("a: n % 3 = 1; b: n = 5..9;")
+    yield pl_same, [], [one_list, one_list], [0, 1]
+    refused = row("a: n % 0 = 1;")
+    yield pl_same, [], [refused, refused], [0, -22]
 
 
 class Unchanged(list):
@@ -68,48 +87,58 @@ class Unchanged(list):
 
 class Calls(unittest.TestCase):
     def test_what_is_handed_in_is_the_same_after(self):
-        for call, numbers, t, answer in calls():
-            before = list(t)
-            self.assertEqual(call(*numbers, t), answer)
-            self.assertEqual(t, before)
+        for call, numbers, rows, answer in calls():
+            before = [list(t) for t in rows]
+            self.assertEqual(call(*numbers, *rows), answer)
+            self.assertEqual(rows, before)
 
     def test_what_is_handed_in_is_not_changed_for_a_while(self):
-        for call, numbers, t, answer in calls():
-            self.assertEqual(call(*numbers, Unchanged(t)), answer)
+        for call, numbers, rows, answer in calls():
+            self.assertEqual(call(*numbers, *[Unchanged(t) for t in rows]), answer)
+            if len(rows) == 2 and rows[0] == rows[1]:
+                t = Unchanged(rows[0])
+                self.assertEqual(call(*numbers, t, t), answer)
 
     def test_every_call_is_as_if_the_first(self):
-        for call, numbers, t, answer in calls():
-            for other, other_numbers, u, other_answer in calls():
-                self.assertEqual(call(*numbers, t), answer)
-                self.assertEqual(other(*other_numbers, u), other_answer)
-                self.assertEqual(call(*numbers, t), answer)
+        for call, numbers, rows, answer in calls():
+            for other, other_numbers, other_rows, other_answer in calls():
+                self.assertEqual(call(*numbers, *rows), answer)
+                self.assertEqual(other(*other_numbers, *other_rows), other_answer)
+                self.assertEqual(call(*numbers, *rows), answer)
 
     def test_the_same_list_changed_between_calls(self):
         t = row("a: n = 1; b: n = 2;")
+        u = list(t)
         self.assertEqual(pl_read(t), [0, 2])
         self.assertEqual(pl_form(2, t), [1, 1, 98])
+        self.assertEqual(pl_same(t, u), [0, 1])
         t[t.index(98)] = 99
         self.assertEqual(pl_form(2, t), [1, 1, 99])
+        self.assertEqual(pl_same(t, u), [2, 2])
+        self.assertEqual(pl_same(u, t), [2, 2])
         t[t.index(99)] = 97
         self.assertEqual(pl_read(t), [0, -22])
         self.assertEqual(pl_form(2, t), [0, -22])
+        self.assertEqual(pl_same(t, u), [0, -22])
+        self.assertEqual(pl_same(u, u), [0, 1])
 
     def test_an_answer_belongs_to_the_caller(self):
-        for call, numbers, t, answer in calls():
-            given = call(*numbers, t)
+        for call, numbers, rows, answer in calls():
+            given = call(*numbers, *rows)
             given[1] = 77
             given.append(5)
-            self.assertEqual(call(*numbers, t), answer)
+            self.assertEqual(call(*numbers, *rows), answer)
 
     def test_the_names_of_the_arguments(self):
         self.assertEqual(pl_read(t=row("a: n = 1;")), [0, 1])
         self.assertEqual(pl_form(t=row("a: n = 1;"), number=1), [1, 1, 97])
+        self.assertEqual(pl_same(u=row("a: n = 1"), t=row("a: n % 0 = 1;")), [0, -22])
 
     def test_nothing_is_printed(self):
         out = io.StringIO()
         with contextlib.redirect_stdout(out), contextlib.redirect_stderr(out):
-            for call, numbers, t, answer in calls():
-                call(*numbers, t)
+            for call, numbers, rows, answer in calls():
+                call(*numbers, *rows)
         self.assertEqual(out.getvalue(), "")
 
     def test_few_calls_stand_within_one_another(self):
@@ -134,6 +163,7 @@ class Calls(unittest.TestCase):
             for text in texts:
                 pl_read(row(text))
                 pl_form(2, row(text))
+                pl_same(row(text), row(text))
         finally:
             sys.setprofile(None)
         self.assertLess(deepest - here, 30)
@@ -152,7 +182,7 @@ class Source(unittest.TestCase):
                 self.assertNotIsInstance(node, (ast.Import, ast.ImportFrom), name)
 
     def test_only_plain_names_of_python_are_called(self):
-        allowed = {"len", "tuple", "list", "any", "all"}
+        allowed = {"len", "tuple", "list", "any", "all", "max", "range"}
         for name, tree in self.trees():
             own = {node.name for node in ast.walk(tree) if isinstance(node, ast.FunctionDef)}
             parameters = {node.arg for node in ast.walk(tree) if isinstance(node, ast.arg)}

@@ -7,6 +7,7 @@ import itertools
 import re
 import unittest
 
+from helper import row
 from wordforms.rules import pl_read, read_rule, tokens_of
 
 NO_RULE = -71
@@ -17,10 +18,6 @@ ONE = f"n(%1)?[=!]{RANGE}(,{RANGE})*"
 BOTH = f"{ONE}(a{ONE})*"
 EITHER = f"{BOTH}(o{BOTH})*"
 RULE = re.compile(f"([wnoa]:{EITHER};)*")
-
-
-def row(text):
-    return list(text.encode("latin-1"))
 
 
 def sign(token):

@@ -2,15 +2,12 @@
 
 import unittest
 
+from helper import Unseen, row
 from wordforms.rules import pl_read
 
 WRONG = -22
 TOO_MUCH = -28
 NO_RULE = -71
-
-
-def row(text):
-    return list(text.encode("latin-1"))
 
 
 def ranges(count):
@@ -120,12 +117,6 @@ class Length(Case):
         self.reads(" " * 2100, TOO_MUCH)
 
     def test_a_longer_row_is_not_looked_at(self):
-        class Unseen(list):
-            def refuse(self, *others):
-                raise RuntimeError("looked at")
-
-            __getitem__ = __iter__ = __contains__ = __eq__ = __reversed__ = refuse
-
         self.assertEqual(pl_read(Unseen([97] * 2049)), [0, TOO_MUCH])
         with self.assertRaises(RuntimeError):
             pl_read(Unseen([97] * 2048))

@@ -282,3 +282,36 @@ def pl_form(number, t):
         return answer
     word = form_of(read_rule(t), number)
     return [1, len(word)] + list(word)
+
+
+def settled_from(ones):
+    """The number from which on no range without a remainder is met any more."""
+    without = [one for one in ones if one[0] is None]
+    return max([last for first, last in ranges_of(without)], default=-1) + 1
+
+
+def first_difference(forms, others, count):
+    """The least number below count that has another word by the others; None if there is none."""
+    for number in range(count):
+        if form_of(forms, number) != form_of(others, number):
+            return number
+    return None
+
+
+def pl_same(t, u):
+    """[0, 1] if every number has the same form by both rules, else [2, the least that hasn't]; or [0, a refusal]."""
+    for rule in (t, u):
+        answer = pl_read(rule)
+        if answer[1] < 0:
+            return answer
+    forms = read_rule(t)
+    others = read_rule(u)
+    ones = ones_of(forms + others)
+    period = least_multiple(divisors_of(ones))
+    if period > MOST_MULTIPLE:
+        return [0, TOO_MUCH]
+    # Behind the ranges remainders alone tell, and these come again with each period: one period stands for all.
+    where = first_difference(forms, others, settled_from(ones) + period)
+    if where is None:
+        return [0, 1]
+    return [2, where]
